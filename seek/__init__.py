@@ -1,0 +1,1 @@
+"""Seek: the first way of a pattern, and all the others behind it."""

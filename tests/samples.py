@@ -1,4 +1,6 @@
-"""Patterns for the tests: short names for them, one of each kind, and many mixed ones."""
+"""Patterns for the tests: short names for them, one of each kind, and many mixed ones; and texts."""
+
+import itertools
 
 
 def sign(s):
@@ -59,6 +61,14 @@ SIGNS = [chr(n) for n in range(32, 127) if chr(n) != "%"]
 class Mixer:
     """Makes mixed patterns, the same ones each time: its numbers come from a fixed row of numbers."""
 
+    signs = SIGNS
+    without_parts = WITHOUT_PARTS
+    with_parts = WITH_PARTS
+    hows = ["much", "little", "keep"]
+    most_patterns = 60
+    most_deep = 8
+    most_turns = 9
+
     def __init__(self, seed):
         self.state = seed
         self.left = 0
@@ -73,19 +83,24 @@ class Mixer:
 
     def whole(self):
         """A whole pattern that keeps to all bounds."""
-        self.left = 1 + self.below(60)
+        self.left = 1 + self.below(self.most_patterns)
         self.groups = 0
-        pattern = self.pattern(1 + self.below(8), "")
+        pattern = self.pattern(1 + self.below(self.most_deep), "")
         return self.with_numbers(pattern) if self.groups else without_numbers(pattern)
 
     def pattern(self, deep, around):
         """A pattern of at most so many patterns as are left, for a place within one of the kind around."""
         self.left -= 1
         if deep == 1 or self.left < 2:
-            kind = self.one_of([k for k in WITHOUT_PARTS if k != "empty" or around != "row"])
+            kind = self.one_of([k for k in self.without_parts if k != "empty" or around != "row"])
         else:
-            kind = self.one_of([k for k in WITH_PARTS if k != around or k not in ("row", "or")])
+            kind = self.one_of([k for k in self.with_parts if self.may_stand(k, around)])
         return self.of_kind(kind, deep)
+
+    def may_stand(self, kind, around):
+        if kind == "group":
+            return self.groups < 9
+        return kind != around or kind not in ("row", "or")
 
     def parts(self, size, kind, deep):
         self.left -= size
@@ -97,7 +112,7 @@ class Mixer:
 
     def of_kind(self, kind, deep):
         if kind == "sign":
-            return sign(self.one_of(SIGNS))
+            return sign(self.one_of(self.signs))
         if kind in ("any", "begin", "end"):
             return (kind,)
         if kind in ("in", "out"):
@@ -107,22 +122,22 @@ class Mixer:
         if kind in ("row", "or"):
             return (kind, self.parts(min(2 + self.below(7), self.left), kind, deep))
         if kind == "times":
-            low = self.below(10)
-            high = self.one_of([None] + list(range(max(low, 1), 10)))
-            return ("times", low, high, self.one_of(["much", "little", "keep"])) + self.parts(1, kind, deep)
+            low = self.below(self.most_turns + 1)
+            high = self.one_of([None] + list(range(max(low, 1), self.most_turns + 1)))
+            return ("times", low, high, self.one_of(self.hows)) + self.parts(1, kind, deep)
         if kind == "again":
             return ("again", 0)
         if kind == "have":
             return ("have", 0) + self.parts(2, kind, deep)
-        if kind == "group" and self.groups < 9:
+        if kind == "group":
             self.groups += 1
             return ("group", self.groups) + self.parts(1, kind, deep)
-        return ("once" if kind == "group" else kind,) + self.parts(1, kind, deep)
+        return (kind,) + self.parts(1, kind, deep)
 
     def run(self):
-        low = self.below(len(SIGNS))
-        high = low if self.below(2) else low + self.below(len(SIGNS) - low)
-        return (SIGNS[low], SIGNS[high])
+        low = self.below(len(self.signs))
+        high = low if self.below(2) else low + self.below(len(self.signs) - low)
+        return (self.signs[low], self.signs[high])
 
     def with_numbers(self, pattern):
         """The same, with a group's number in each again and have."""
@@ -131,6 +146,25 @@ class Mixer:
         if pattern[:1] in (("again",), ("have",)):
             pattern = (pattern[0], 1 + self.below(self.groups)) + pattern[2:]
         return tuple(self.with_numbers(item) for item in pattern)
+
+
+class SmallMixer(Mixer):
+    """Mixed patterns of few signs, which often have ways over texts of a and b."""
+
+    signs = ["a", "b"]
+    without_parts = WITHOUT_PARTS + ["sign"] * 6 + ["any"] * 4 + ["again", "empty"]
+    with_parts = WITH_PARTS + ["row", "or", "times", "group"] * 3
+    most_patterns = 16
+    most_deep = 6
+    most_turns = 3
+
+
+class PlainMixer(SmallMixer):
+    """The same, plain ones alone."""
+
+    without_parts = ["in", "out", "begin", "end", "empty"] + ["sign"] * 5 + ["any"] * 5
+    with_parts = ["row", "or", "times", "times", "group"]
+    hows = ["much", "little"]
 
 
 def without_numbers(pattern):
@@ -144,6 +178,11 @@ def without_numbers(pattern):
     return tuple(without_numbers(item) for item in pattern)
 
 
-def mixed(how_many):
-    mixer = Mixer(1)
-    return [mixer.whole() for _ in range(how_many)]
+def mixed(how_many, mixer=Mixer):
+    maker = mixer(1)
+    return [maker.whole() for _ in range(how_many)]
+
+
+def texts_up_to(length, signs="ab"):
+    """All texts of these signs of at most so many signs."""
+    return ["".join(chosen) for size in range(length + 1) for chosen in itertools.product(signs, repeat=size)]
